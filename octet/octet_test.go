@@ -8,31 +8,21 @@ import (
 	"testing/quick"
 
 	"linkboy/api"
+	"linkboy/roomy"
 )
-
-// roomy answers bytes with room behind them that holds 170s: an append in place would be seen there.
-func roomy(b ...byte) []byte {
-	room := bytes.Repeat([]byte{170}, len(b)+16)
-	copy(room, b)
-	return room[:len(b)]
-}
 
 // untouched fails if a roomy slice isn't what it was, its room included.
 func untouched(t *testing.T, got []byte, want ...byte) {
 	t.Helper()
-	if !bytes.Equal(got[:cap(got)], roomy(want...)[:len(want)+16]) {
+	if !roomy.Untouched(got, want...) {
 		t.Errorf("what was handed in is changed: % x", got[:cap(got)])
 	}
 }
 
-// separate fails if writing in an answer shows in what was handed in, or the other way round.
+// separate fails if an answer shares memory with what was handed in.
 func separate(t *testing.T, in, out []byte) {
 	t.Helper()
-	before := bytes.Clone(in[:cap(in)])
-	for i := range out[:cap(out)] {
-		out[:cap(out)][i] ^= 255
-	}
-	if !bytes.Equal(before, in[:cap(in)]) {
+	if !roomy.Apart(in, out) {
 		t.Error("an answer shares memory with what was handed in")
 	}
 }
@@ -59,7 +49,7 @@ func TestGet16(t *testing.T) {
 			t.Errorf("at %d: %x %v", at, n, ok)
 		}
 	}
-	for _, b := range [][]byte{nil, {}, {9}, roomy(9)} {
+	for _, b := range [][]byte{nil, {}, {9}, roomy.Bytes(9)} {
 		if n, ok := Get16(b, 0); n != 0 || ok {
 			t.Errorf("of %v: %x %v", b, n, ok)
 		}
@@ -78,7 +68,7 @@ func TestGet32(t *testing.T) {
 			t.Errorf("at %d: %x %v", at, n, ok)
 		}
 	}
-	for _, b := range [][]byte{nil, {}, {9, 9, 9}, roomy(9, 9, 9)} {
+	for _, b := range [][]byte{nil, {}, {9, 9, 9}, roomy.Bytes(9, 9, 9)} {
 		if n, ok := Get32(b, 0); n != 0 || ok {
 			t.Errorf("of %v: %x %v", b, n, ok)
 		}
@@ -94,7 +84,7 @@ func TestPut16(t *testing.T) {
 			t.Error(got)
 		}
 	}
-	in := roomy(7, 8)
+	in := roomy.Bytes(7, 8)
 	got := Put16(in, 0x0102, 0, 0xffff, 0x8001)
 	if !bytes.Equal(got, []byte{7, 8, 1, 2, 0, 0, 255, 255, 0x80, 1}) {
 		t.Error(got)
@@ -113,7 +103,7 @@ func TestPut32(t *testing.T) {
 			t.Error(got)
 		}
 	}
-	in := roomy(7)
+	in := roomy.Bytes(7)
 	got := Put32(in, 0x80000001, 0, 0xffffffff)
 	if !bytes.Equal(got, []byte{7, 0x80, 0, 0, 1, 0, 0, 0, 0, 255, 255, 255, 255}) {
 		t.Error(got)
@@ -133,7 +123,7 @@ func TestPutKeepsNumbers(t *testing.T) {
 }
 
 func TestSet16(t *testing.T) {
-	in := roomy(1, 2, 3, 4, 5, 6)
+	in := roomy.Bytes(1, 2, 3, 4, 5, 6)
 	for at, want := range [][]byte{
 		{0xab, 0xcd, 3, 4, 5, 6}, {1, 0xab, 0xcd, 4, 5, 6}, {1, 2, 0xab, 0xcd, 5, 6},
 		{1, 2, 3, 0xab, 0xcd, 6}, {1, 2, 3, 4, 0xab, 0xcd},
@@ -150,7 +140,7 @@ func TestSet16(t *testing.T) {
 			t.Errorf("at %d: % x %v", at, got, ok)
 		}
 	}
-	for _, b := range [][]byte{nil, {}, {9}, roomy(9)} {
+	for _, b := range [][]byte{nil, {}, {9}, roomy.Bytes(9)} {
 		if got, ok := Set16(b, 0, 9); len(got) != 0 || ok {
 			t.Errorf("of %v: % x %v", b, got, ok)
 		}
@@ -161,7 +151,7 @@ func TestSet16(t *testing.T) {
 // P1.2
 
 func TestCut(t *testing.T) {
-	in := roomy(1, 2, 3, 4, 5, 6)
+	in := roomy.Bytes(1, 2, 3, 4, 5, 6)
 	for at := 0; at <= 6; at++ {
 		for n := 0; n <= 6-at; n++ {
 			got, ok := Cut(in, at, n)
@@ -180,7 +170,7 @@ func TestCut(t *testing.T) {
 }
 
 func TestCutRefuses(t *testing.T) {
-	in := roomy(1, 2, 3, 4, 5, 6)
+	in := roomy.Bytes(1, 2, 3, 4, 5, 6)
 	for _, c := range [][2]int{
 		{0, 7}, {1, 6}, {5, 2}, {6, 1}, {7, 0}, {7, 1}, {7, -1}, {0, -1}, {3, -1}, {6, -6}, {-1, 0}, {-1, 1}, {-1, 2}, {-1, 7},
 		{0, math.MaxInt}, {1, math.MaxInt}, {6, math.MaxInt}, {math.MaxInt, 0}, {math.MaxInt, 1}, {math.MaxInt, math.MaxInt},
@@ -197,7 +187,7 @@ func TestCutRefuses(t *testing.T) {
 }
 
 func TestJoin(t *testing.T) {
-	a, b := roomy(1, 2), roomy(3)
+	a, b := roomy.Bytes(1, 2), roomy.Bytes(3)
 	for _, c := range []struct {
 		l    [][]byte
 		want []byte
@@ -249,7 +239,7 @@ func TestHex(t *testing.T) {
 			t.Errorf("%v: %q", c.b, got)
 		}
 	}
-	in := roomy(1, 2)
+	in := roomy.Bytes(1, 2)
 	Hex(in)
 	untouched(t, in, 1, 2)
 }
