@@ -6,6 +6,7 @@ import (
 
 	"linkboy/addr"
 	"linkboy/api"
+	"linkboy/digits"
 )
 
 const (
@@ -161,7 +162,7 @@ func (p *parser) net(ops ...int) bool {
 	bits := maxBits
 	ok := true
 	if cut {
-		bits, ok = number(width, maxBits)
+		bits, ok = digits.Number(width, maxBits)
 	}
 	a, e := addr.Parse(at)
 	p.any(Step{Addr: a, Num: bits}, ops)
@@ -170,7 +171,7 @@ func (p *parser) net(ops ...int) bool {
 
 // number likewise reads a number.
 func (p *parser) number(ops ...int) bool {
-	n, ok := number(p.next(), maxNum)
+	n, ok := digits.Number(p.next(), maxNum)
 	p.any(Step{Num: n}, ops)
 	return ok
 }
@@ -184,18 +185,6 @@ func (p *parser) any(s Step, ops []int) {
 			p.put(Step{Op: either})
 		}
 	}
-}
-
-// number answers the number that decimal digits are.
-func number(s string, most int) (int, bool) {
-	n := 0
-	for _, r := range s {
-		if r < '0' || r > '9' || n > most {
-			return 0, false
-		}
-		n = n*10 + int(r-'0')
-	}
-	return n, n <= most && strconv.Itoa(n) == s
 }
 
 // Print answers a filter as a text.
