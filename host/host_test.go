@@ -730,6 +730,18 @@ func TestTickProbes(t *testing.T) {
 	w.sees(0, segment(client, vip, tcp.Plain(2, 80, 1, 0, api.SYN)), nil, api.CntNoBackend)
 }
 
+// TestTickOneBad has one backend not answer.
+func TestTickOneBad(t *testing.T) {
+	w := up(t)
+	w.ticks(3)
+	w.sees(1, probe(behind, 11, 4, 18), []api.Sent{bye(behind, 11, 4)}, api.CntProbeGood)
+	w.sees(1, ponged(behind+2, 31, 6), nil, api.CntProbeGood)
+	before := w.h.Counts()
+	w.ticks(2)
+	w.diff(before, api.CntProbeBad)
+	w.ups(true, false, true)
+}
+
 func TestTickAsks(t *testing.T) {
 	w := made(t, conf())
 	for range 2 {

@@ -146,7 +146,11 @@ func TestMove(t *testing.T) {
 	if s.Move() != 0 || s.Next() != top-1 {
 		t.Error(s.Base())
 	}
-	adds(t, s, top-1, 4, 4)
+	adds(t, s, top, 1, 1)
+	if s.Move() != 0 || s.Next() != top-1 {
+		t.Error(s.Base())
+	}
+	adds(t, s, top-1, 4, 3)
 	if n := s.Move(); n != 4 || s.Base() != 2 || s.Next() != 2 {
 		t.Error(n, s.Base())
 	}
