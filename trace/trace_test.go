@@ -139,8 +139,8 @@ func TestLine(t *testing.T) {
 		want string
 	}{
 		{sent(0, api.TypeARP, who), "0 arp who 10.0.0.2 tell 10.0.0.1"},
-		{sent(1, api.TypeARP, is), "1 arp is 10.0.0.1 tell 02:01:ff:00:00:00"},
-		{sent(1, api.TypeARP, append(is, 0, 0)), "1 arp is 10.0.0.1 tell 02:01:ff:00:00:00"},
+		{sent(1, api.TypeARP, is), "1 arp is 10.0.0.1 02:01:ff:00:00:00"},
+		{sent(1, api.TypeARP, append(is, 0, 0)), "1 arp is 10.0.0.1 02:01:ff:00:00:00"},
 		{sent(9, api.TypeIP, p), "9 " + told},
 		{sent(10, api.TypeIP, append(slices.Clone(p), 0, 0)), "? " + told},
 		{sent(-1, api.TypeIP, p[:30]), "? raw 44"},
