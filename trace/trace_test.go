@@ -100,9 +100,12 @@ func TestPacket(t *testing.T) {
 		{"a fragment that bears", part, "ip 0.0.0.3 0.0.0.4 4"},
 		{"one that bears", bear(segment(), 3, 4), "ipip 0.0.0.3 0.0.0.4 [" + told + "]"},
 		{"one that bears another protocol", bear(put(7, nil), 3, 4), "ipip 0.0.0.3 0.0.0.4 [ip 10.0.0.1 10.0.0.2 7]"},
-		{"two that bear", bear(bear(segment(), 3, 4), 5, 6), "ipip 0.0.0.5 0.0.0.6 [ipip 0.0.0.3 0.0.0.4 [" + told + "]]"},
-		{"three that bear", bear(bear(bear(segment(), 3, 4), 5, 6), 7, 8), "ipip 0.0.0.7 0.0.0.8 [ipip 0.0.0.5 0.0.0.6 [ipip 0.0.0.3 0.0.0.4]]"},
-		{"four that bear", bear(bear(bear(bear(segment(), 3, 4), 5, 6), 7, 8), 9, 9), "ipip 0.0.0.9 0.0.0.9 [ipip 0.0.0.7 0.0.0.8 [ipip 0.0.0.5 0.0.0.6]]"},
+		{"two that bear", bear(bear(segment(), 3, 4), 5, 6), "ipip 0.0.0.5 0.0.0.6 [ipip 0.0.0.3 0.0.0.4]"},
+		{"two that bear another protocol", bear(bear(put(99, nil), 3, 4), 5, 6), "ipip 0.0.0.5 0.0.0.6 [ipip 0.0.0.3 0.0.0.4]"},
+		{"one that bears one that bears nothing", bear(put(4, []byte("abc")), 5, 6), "ipip 0.0.0.5 0.0.0.6 [ip 10.0.0.1 10.0.0.2 4]"},
+		{"one that bears a fragment that bears", bear(part, 5, 6), "ipip 0.0.0.5 0.0.0.6 [ip 0.0.0.3 0.0.0.4 4]"},
+		{"three that bear", bear(bear(bear(segment(), 3, 4), 5, 6), 7, 8), "ipip 0.0.0.7 0.0.0.8 [ipip 0.0.0.5 0.0.0.6]"},
+		{"four that bear", bear(bear(bear(bear(segment(), 3, 4), 5, 6), 7, 8), 9, 9), "ipip 0.0.0.9 0.0.0.9 [ipip 0.0.0.7 0.0.0.8]"},
 	} {
 		if got := Packet(x.p); got != x.want {
 			t.Error(x.name, got)
@@ -118,7 +121,7 @@ func TestPacket(t *testing.T) {
 	for range 3000 {
 		deep = bear(deep, 1, 2)
 	}
-	if got := Packet(deep); got != "ipip 0.0.0.1 0.0.0.2 [ipip 0.0.0.1 0.0.0.2 [ipip 0.0.0.1 0.0.0.2]]" {
+	if got := Packet(deep); got != "ipip 0.0.0.1 0.0.0.2 [ipip 0.0.0.1 0.0.0.2]" {
 		t.Error(got)
 	}
 }
